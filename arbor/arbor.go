@@ -5,6 +5,7 @@ import (
 	"arbor/api"
 	"arbor/frame"
 	"arbor/graph"
+	"arbor/link"
 )
 
 // Check tells whether edges are a graph (P3).
@@ -17,22 +18,22 @@ func Encode(f api.Frame) ([]byte, api.Errno) { return frame.Encode(f) }
 func Decode(b []byte) (api.Frame, api.Errno) { return frame.Decode(b) }
 
 // End is one end of a link.
-type End struct{}
+type End struct{ link link.End }
 
 // NewEnd gives an end that has sent nothing (P5).
-func NewEnd() *End { return nil }
+func NewEnd() *End { return &End{} }
 
 // Send sends a message (P5).
-func (e *End) Send(m api.Message) api.Errno { return api.OK }
+func (e *End) Send(m api.Message) api.Errno { return e.link.Send(m) }
 
 // In takes bytes that came, and tells the messages that are taken (P5).
-func (e *End) In(b []byte) []api.Message { return nil }
+func (e *End) In(b []byte) []api.Message { return e.link.In(b) }
 
 // Tick sends again what is not acknowledged (P5).
-func (e *End) Tick() {}
+func (e *End) Tick() { e.link.Tick() }
 
 // Out tells the frames that went out (P5).
-func (e *End) Out() [][]byte { return nil }
+func (e *End) Out() [][]byte { return e.link.Out() }
 
 // Net is nodes, links, and packets on their way.
 type Net struct{}

@@ -35,7 +35,7 @@ func Encode(f api.Frame) ([]byte, api.Errno) {
 // fits tells whether the frame has just the message that its kind asks for.
 func fits(f api.Frame) bool {
 	if f.Data {
-		return mayBe(f.M)
+		return MayBe(f.M)
 	}
 	return f.M == api.Message{}
 }

@@ -28,8 +28,8 @@ func boundsOf(kind int) (bounds, bool) {
 	return bounds{}, false
 }
 
-// mayBe tells whether there may be such a message.
-func mayBe(m api.Message) bool {
+// MayBe tells whether there may be such a message.
+func MayBe(m api.Message) bool {
 	b, known := boundsOf(m.Kind)
 	return known &&
 		0 <= m.Level && m.Level <= b.maxLevel &&

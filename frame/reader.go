@@ -45,7 +45,7 @@ func (r *reader) message() api.Message {
 	m.Level = r.one()
 	m.Finding = r.flag()
 	m.Name = r.two()
-	must(mayBe(m))
+	must(MayBe(m))
 	return m
 }
 
