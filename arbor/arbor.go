@@ -6,6 +6,7 @@ import (
 	"arbor/frame"
 	"arbor/graph"
 	"arbor/link"
+	"arbor/mesh"
 )
 
 // Check tells whether edges are a graph (P3).
@@ -36,34 +37,40 @@ func (e *End) Tick() { e.link.Tick() }
 func (e *End) Out() [][]byte { return e.link.Out() }
 
 // Net is nodes, links, and packets on their way.
-type Net struct{}
+type Net struct{ mesh mesh.Net }
 
-// New gives a net whose nodes sleep (P5).
-func New(nodes int, edges []api.Edge) (*Net, api.Errno) { return nil, api.OK }
+// New gives a net whose nodes sleep (P6).
+func New(nodes int, edges []api.Edge) (*Net, api.Errno) {
+	m, e := mesh.New(nodes, edges)
+	if e != api.OK {
+		return nil, e
+	}
+	return &Net{m}, api.OK
+}
 
 // Wake wakes a node (P6).
-func (n *Net) Wake(node int) api.Errno { return api.OK }
+func (n *Net) Wake(node int) api.Errno { return n.mesh.Wake(node) }
 
 // Packets tells what is on its way (P7).
-func (n *Net) Packets() []api.Packet { return nil }
+func (n *Net) Packets() []api.Packet { return n.mesh.Packets() }
 
 // Deliver hands over a packet (P8).
-func (n *Net) Deliver(k int) api.Errno { return api.OK }
+func (n *Net) Deliver(k int) api.Errno { return n.mesh.Deliver(k) }
 
 // Lose loses a packet (P9).
-func (n *Net) Lose(k int) api.Errno { return api.OK }
+func (n *Net) Lose(k int) api.Errno { return n.mesh.Lose(k) }
 
 // Again doubles a packet (P9).
-func (n *Net) Again(k int) api.Errno { return api.OK }
+func (n *Net) Again(k int) api.Errno { return n.mesh.Again(k) }
 
 // Spoil spoils a byte of a packet (P9).
-func (n *Net) Spoil(k, at int, with byte) api.Errno { return api.OK }
+func (n *Net) Spoil(k, at int, with byte) api.Errno { return n.mesh.Spoil(k, at, with) }
 
 // Tick lets a node send again what is not acknowledged (P10).
-func (n *Net) Tick(node int) api.Errno { return api.OK }
+func (n *Net) Tick(node int) api.Errno { return n.mesh.Tick(node) }
 
 // Look tells what is known of a node (P11).
-func (n *Net) Look(node int) (api.Node, api.Errno) { return api.Node{}, api.OK }
+func (n *Net) Look(node int) (api.Node, api.Errno) { return n.mesh.Look(node) }
 
 // Tree tells the edges that are branches at either end (P11).
-func (n *Net) Tree() []api.Edge { return nil }
+func (n *Net) Tree() []api.Edge { return n.mesh.Tree() }

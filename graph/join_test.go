@@ -1,7 +1,6 @@
 package graph
 
 import (
-	"container/heap"
 	"testing"
 
 	"arbor/api"
@@ -63,20 +62,5 @@ func TestP3EverySmallGraph(t *testing.T) {
 				}
 			}
 		}
-	}
-}
-
-// TestHeapTellsTheLightest: whatever goes in when, the lightest comes out.
-func TestHeapTellsTheLightest(t *testing.T) {
-	var h byWeight
-	for k := range 30 {
-		heap.Push(&h, api.Edge{A: k, Weight: 1 + k*17%31})
-	}
-	for last := 0; len(h) > 0; {
-		e := heap.Pop(&h).(api.Edge)
-		if e.Weight <= last || e.Weight != 1+e.A*17%31 {
-			t.Fatalf("%v comes behind the weight %d", e, last)
-		}
-		last = e.Weight
 	}
 }
